@@ -1,0 +1,1 @@
+"""Hoists of signal flags: what they mean, out of a locker told by its text."""

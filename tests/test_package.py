@@ -1,0 +1,106 @@
+"""What the package's files may hold, and that nothing is read, printed or imported."""
+
+import ast
+import inspect
+import os
+import re
+import subprocess
+import sys
+import unittest
+
+import flaghoistsdesk
+from flaghoistsdesk.locker import means
+
+FOLDER = os.path.dirname(os.path.abspath(flaghoistsdesk.__file__))
+FILES = [os.path.join(FOLDER, name) for name in sorted(os.listdir(FOLDER)) if name != "__pycache__"]
+WORDS = ("type typing typing_extensions enum Enum IntEnum StrEnum Flag IntFlag Generic Protocol ABC ABCMeta namedtuple "
+         "NamedTuple TypedDict TYPE_CHECKING abstractmethod").split()
+CALLED = "len range enumerate ord".split()
+
+
+def contents(path):
+    with open(path, encoding="utf-8") as source:
+        return source.read()
+
+
+class Interface(unittest.TestCase):
+    def test_means_and_its_arguments(self):
+        self.assertEqual(list(inspect.signature(means).parameters), ["t", "h"])
+
+
+class Files(unittest.TestCase):
+    def test_only_plain_files(self):
+        for path in FILES:
+            self.assertRegex(os.path.basename(path), r"\A[a-z0-9_]+\.py\Z")
+
+    def test_sizes_and_signs(self):
+        for path in FILES:
+            lines = contents(path).split("\n")
+            self.assertLessEqual(len(lines), 401, path)
+            for line in lines:
+                self.assertLessEqual(len(line), 120, path)
+                self.assertRegex(line, r"\A[ -~]*\Z", path)
+            for node in ast.walk(ast.parse(contents(path))):
+                if isinstance(node, ast.FunctionDef):
+                    self.assertLessEqual(node.end_lineno - node.lineno + 1, 40, node.name)
+
+    def test_words_left_out(self):
+        for path in FILES:
+            for word in WORDS:
+                self.assertIsNone(re.search(rf"\b{word}\b", contents(path)), (path, word))
+
+    def test_names_begin_with_no_underscore(self):
+        for path in FILES:
+            for node in ast.walk(ast.parse(contents(path))):
+                for field in ("id", "name", "arg", "attr"):
+                    name = getattr(node, field, None)
+                    if isinstance(name, str) and name != "__init__":
+                        self.assertFalse(name.startswith("_"), (path, name))
+
+    def test_few_of_the_names_of_python_are_used(self):
+        own = dir(__builtins__) if not isinstance(__builtins__, dict) else list(__builtins__)
+        for path in FILES:
+            for node in ast.walk(ast.parse(contents(path))):
+                if isinstance(node, ast.Name) and node.id in own:
+                    self.assertIn(node.id, CALLED, path)
+
+    def test_nothing_from_outside_is_imported(self):
+        for path in FILES:
+            for node in ast.walk(ast.parse(contents(path))):
+                self.assertNotIsInstance(node, ast.Import, path)
+                if isinstance(node, ast.ImportFrom):
+                    self.assertEqual((node.module or "").split(".")[0], "flaghoistsdesk", path)
+
+
+class Quiet(unittest.TestCase):
+    def test_prints_reads_and_imports_nothing(self):
+        program = (
+            "import sys\n"
+            "from flaghoistsdesk.locker import means\n"
+            "t = list(b'locker L\\nsign X 1 square 0123456789abcdef\\n')\n"
+            "seen = []\n"
+            "loaded = sorted(sys.modules)\n"
+            "sys.addaudithook(lambda event, args: seen.append(event))\n"
+            "got = [means(t, [0]), means(t, []), means([], [0]), means([10] * 65537, [0])]\n"
+            "told = list(seen)\n"
+            "sys.exit(0 if got == [[1, 0], [-1], [-6], [-2]] and told == [] and sorted(sys.modules) == loaded else 1)\n"
+        )
+        done = subprocess.run([sys.executable, "-c", program], cwd=os.path.dirname(FOLDER), capture_output=True,
+                              stdin=subprocess.DEVNULL)
+        self.assertEqual((done.returncode, done.stdout, done.stderr), (0, b"", b""))
+
+
+class Depth(unittest.TestCase):
+    def test_long_texts_within_few_calls(self):
+        depth = len(inspect.stack())
+        before = sys.getrecursionlimit()
+        sys.setrecursionlimit(depth + 60)
+        try:
+            got = [means([10] * 65536, [0]), means([32] * 65536, [0]), means([65] * 65536, [0])]
+        finally:
+            sys.setrecursionlimit(before)
+        self.assertEqual(got, [[-6], [-6], [-6]])
+
+
+if __name__ == "__main__":
+    unittest.main()

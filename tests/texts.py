@@ -1,0 +1,41 @@
+"""Texts of lockers for the tests."""
+
+
+def look(n):
+    """The look whose colours, read as one hexadecimal number, are n: different for different n."""
+    return f"{n:016x}"
+
+
+def text(*lines):
+    """The bytes of the lines, each with a byte 10 behind it."""
+    return list("".join(line + "\n" for line in lines).encode("latin-1"))
+
+
+def sign(name, n, copies=1, shape="square"):
+    return f"sign {name} {copies} {shape} {look(n)}"
+
+
+def same(k, n, copies=1, shape="tails"):
+    return f"same {k} {copies} {shape} {look(n)}"
+
+
+def answer(n, copies=1, shape="long"):
+    return f"answer {copies} {shape} {look(n)}"
+
+
+# Kinds 0 to 4 are the signs A to E, 5 to 8 the sames with K 1 to 4, 9 the answer.
+# Of A, the same with K 2 and the answer there are 2 copies, of E 8, of all others 1.
+FULL = text(
+    "locker FULL",
+    sign("A", 0, 2),
+    sign("B", 1),
+    sign("C", 2),
+    sign("D", 3),
+    sign("E", 4, 8),
+    same(1, 5),
+    same(2, 6, 2),
+    same(3, 7),
+    same(4, 8),
+    answer(9, 2),
+)
+A, B, C, D, E, SAME1, SAME2, SAME3, SAME4, ANSWER, NO_KIND = range(11)
