@@ -89,14 +89,14 @@ class Whole(TextCase):
         self.refused(text("locker L", "", sign("X", 1)))
         self.refused(FULL + [10])
 
-    def test_every_byte_left_out_or_doubled_at_a_line_end(self):
+    def test_line_ends_left_out_doubled_or_behind_a_13(self):
         places = [place for place, byte in enumerate(FULL) if byte == 10]
         for place in places:
             self.refused(FULL[:place] + FULL[place + 1:])
             self.refused(FULL[:place] + [10] + FULL[place:])
             self.refused(FULL[:place] + [13] + FULL[place:])
 
-    def test_no_two_texts_of_kinds_cut_short(self):
+    def test_texts_cut_short(self):
         t = text("locker L", sign("X", 1), same(1, 2))
         for size in range(len(t)):
             if size != len(text("locker L", sign("X", 1))):
