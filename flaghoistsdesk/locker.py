@@ -1,9 +1,10 @@
-"""Lockers, told by their texts, and the calls on them.
+"""The calls on a locker that is told by its text.
 
-A text, a line of it and a word of a line are lists of bytes: whole numbers from 0 to 255.
-Functions that read give None, and digit_of gives 0, for what isn't as it must be.
+Flags are told by their kinds' numbers: kinds is a list, in which a flag's number is its kind's place.
 Functions that look for a flag's place give -1 where there is none such.
 """
+
+from flaghoistsdesk.reading import SAME, SIGN, is_too_long, read_locker
 
 TEXT_TOO_LONG = -2
 NO_LOCKER = -6
@@ -11,164 +12,16 @@ BAD_LENGTH = -1
 NO_KIND = -4
 MEANS_NOTHING = -9
 TOO_FEW_COPIES = -3
+NOT_SHOWN = -5
 
-MOST_BYTES = 65536
-MOST_SIGNS = 48
-MOST_COPIES = 8
-MOST_BACK = 4
-MOST_NAME = 8
-LOOK_CELLS = 16
 MOST_FLAGS = 8
-
-LINE_END = 10
-BLANK = 32
-NAME_LETTERS = "ABCDEFGHIJKLMNOPQRSTUVWXYZ0123456789"
-LOOK_LETTERS = "0123456789abcdef"
-SHAPES = ("square", "tails", "long")
-
-# Numbered in the order in which they stand in a locker, so that comparing them judges it.
-SIGN = 0
-SAME = 1
-ANSWER = 2
+MOST_HOISTS = 4
 
 
-# The name is a sign's, else empty; back is a same's number K, else 0. The design is the words of
-# shape and look as they stand in the text: each look is written in one way only, so words suffice.
-class Kind:
-    def __init__(self, role, name, back, copies, design):
-        self.role = role
-        self.name = name
-        self.back = back
-        self.copies = copies
-        self.design = design
-
-
-def codes(letters):
-    return [ord(letter) for letter in letters]
-
-
-# Empty parts are kept: by them a blank too many and an empty line are found out.
-def split_at(row, mark):
-    parts = []
-    part = []
-    for byte in row:
-        if byte == mark:
-            parts.append(part)
-            part = []
-        else:
-            part.append(byte)
-    parts.append(part)
-    return parts
-
-
-def made_of(word, letters):
-    allowed = codes(letters)
-    for byte in word:
-        if byte not in allowed:
-            return False
-    return True
-
-
-def is_name(word):
-    return len(word) >= 1 and len(word) <= MOST_NAME and made_of(word, NAME_LETTERS)
-
-
-def is_look(word):
-    return len(word) == LOOK_CELLS and made_of(word, LOOK_LETTERS)
-
-
-def is_shape(word):
-    for shape in SHAPES:
-        if word == codes(shape):
-            return True
-    return False
-
-
-def digit_of(word, most):
-    if len(word) != 1:
-        return 0
-    value = word[0] - ord("0")
-    if value >= 1 and value <= most:
-        return value
-    return 0
-
-
-def is_locker_line(words):
-    return len(words) == 2 and words[0] == codes("locker") and is_name(words[1])
-
-
-# The rest is the words of copies, shape and look, with which the lines of all kinds end.
-def made_kind(role, name, back, rest):
-    if len(rest) != 3:
-        return None
-    copies = digit_of(rest[0], MOST_COPIES)
-    if copies == 0 or not is_shape(rest[1]) or not is_look(rest[2]):
-        return None
-    return Kind(role, name, back, copies, rest[1:])
-
-
-def read_kind(words):
-    if words[0] == codes("answer"):
-        return made_kind(ANSWER, [], 0, words[1:])
-    if len(words) < 2:
-        return None
-    if words[0] == codes("sign") and is_name(words[1]):
-        return made_kind(SIGN, words[1], 0, words[2:])
-    back = digit_of(words[1], MOST_BACK)
-    if words[0] == codes("same") and back > 0:
-        return made_kind(SAME, [], back, words[2:])
-    return None
-
-
-# The last kind is enough to look at: those before it are in order already.
-def in_order(kinds, kind):
-    if len(kinds) == 0:
-        return True
-    last = kinds[-1]
-    if kind.role != last.role:
-        return kind.role > last.role
-    if kind.role == SAME:
-        return kind.back > last.back
-    return kind.role == SIGN
-
-
-def is_new(kinds, kind):
-    for before in kinds:
-        if kind.role == SIGN and before.name == kind.name:
-            return False
-        if before.design == kind.design:
-            return False
-    return True
-
-
-def fits(kinds, kind):
-    # A sign that is in order has nothing but signs before it, so kinds counts them.
-    if kind.role == SIGN and len(kinds) >= MOST_SIGNS:
-        return False
-    return in_order(kinds, kind) and is_new(kinds, kind)
-
-
-def read_kinds(lines):
-    kinds = []
-    for line in lines:
-        kind = read_kind(split_at(line, BLANK))
-        if kind is None or not fits(kinds, kind):
-            return None
-        kinds.append(kind)
-    # Signs stand first: if the first kind is none, there is none at all.
-    if len(kinds) == 0 or kinds[0].role != SIGN:
-        return None
-    return kinds
-
-
-def read_locker(t):
-    lines = split_at(t, LINE_END)
-    # What stands behind the last byte 10 would be a line whose byte 10 is missing.
-    if len(lines.pop()) > 0 or len(lines) == 0:
-        return None
-    if not is_locker_line(split_at(lines[0], BLANK)):
-        return None
-    return read_kinds(lines[1:])
+def text_refusal(t):
+    if is_too_long(t):
+        return [TEXT_TOO_LONG]
+    return [NO_LOCKER]
 
 
 def unknown_place(kinds, h):
@@ -216,9 +69,137 @@ def means_in(kinds, h):
 
 
 def means(t, h):
-    if len(t) > MOST_BYTES:
-        return [TEXT_TOO_LONG]
     kinds = read_locker(t)
     if kinds is None:
-        return [NO_LOCKER]
+        return text_refusal(t)
     return means_in(kinds, h)
+
+
+def sign_count(kinds):
+    return len([kind for kind in kinds if kind.role == SIGN])
+
+
+# Signs are numbered ahead of all other kinds.
+def are_signs(kinds, row):
+    signs = sign_count(kinds)
+    for sign in row:
+        if sign >= signs:
+            return False
+    return True
+
+
+def are_lengths(lens, signs):
+    if len(lens) == 0 or len(lens) > MOST_HOISTS:
+        return False
+    for length in lens:
+        if length == 0 or length > MOST_FLAGS:
+            return False
+    return sum(lens) == len(signs)
+
+
+# What a same means hangs on the row alone, not on which flags above show it: so each place has its
+# choices whatever goes up elsewhere. They rise: the sign's own flag, then sames.
+def choices_at(kinds, row, place):
+    choices = [row[place]]
+    for flag, kind in enumerate(kinds):
+        if kind.role == SAME and kind.back <= place and row[kind.back - 1] == row[place]:
+            choices.append(flag)
+    return choices
+
+
+def row_choices(kinds, row):
+    return [choices_at(kinds, row, place) for place in range(len(row))]
+
+
+def all_choices(kinds, lens, signs):
+    wanted = []
+    start = 0
+    for length in lens:
+        wanted.extend(row_choices(kinds, signs[start:start + length]))
+        start = start + length
+    return wanted
+
+
+def same_sets(kinds):
+    sets = [[]]
+    for flag, kind in enumerate(kinds):
+        if kind.role == SAME:
+            sets = sets + [chosen + [flag] for chosen in sets]
+    return sets
+
+
+def copies_of(kinds):
+    return [kind.copies for kind in kinds]
+
+
+def is_within(flags, chosen):
+    for flag in flags:
+        if flag not in chosen:
+            return False
+    return True
+
+
+# Of the places that no same but the chosen ones can show: how many are left when the signs' own
+# flags have gone up there as far as they reach.
+def bound_to(wanted, left, chosen):
+    counts = {}
+    for choices in wanted:
+        if is_within(choices[1:], chosen):
+            counts[choices[0]] = counts.get(choices[0], 0) + 1
+    return sum([max(0, counts[sign] - left[sign]) for sign in counts])
+
+
+# That no set of sames is asked for more than its copies is needed; by Hall's theorem it is enough too.
+def can_fill(wanted, left, sets):
+    for chosen in sets:
+        if bound_to(wanted, left, chosen) > sum([left[flag] for flag in chosen]):
+            return False
+    return True
+
+
+def without(left, flag):
+    after = list(left)
+    after[flag] = after[flag] - 1
+    return after
+
+
+# A same goes up only where the own flag, if one is left, leaves some place below without any: then
+# all own flags left are needed below. So taking the first that goes makes the sames fewest too.
+def first_flag(choices, below, left, sets):
+    for flag in choices:
+        if left[flag] > 0 and can_fill(below, without(left, flag), sets):
+            return flag
+    return -1
+
+
+# None if nothing shows the rows; that is found out at the first place already.
+def told_flags(kinds, wanted):
+    sets = same_sets(kinds)
+    left = copies_of(kinds)
+    flags = []
+    for place, choices in enumerate(wanted):
+        flag = first_flag(choices, wanted[place + 1:], left, sets)
+        if flag < 0:
+            return None
+        flags.append(flag)
+        left = without(left, flag)
+    return flags
+
+
+def shows_in(kinds, lens, signs):
+    if not are_lengths(lens, signs):
+        return [BAD_LENGTH]
+    if not are_signs(kinds, signs):
+        return [NO_KIND]
+    flags = told_flags(kinds, all_choices(kinds, lens, signs))
+    if flags is None:
+        return [NOT_SHOWN]
+    sames = [flag for flag in flags if kinds[flag].role == SAME]
+    return [len(flags), len(sames)] + flags
+
+
+def shows(t, lens, signs):
+    kinds = read_locker(t)
+    if kinds is None:
+        return text_refusal(t)
+    return shows_in(kinds, lens, signs)

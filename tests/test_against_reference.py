@@ -2,70 +2,11 @@
 
 import itertools
 import random
-import re
 import unittest
 
 from flaghoistsdesk.locker import means
+from reference import expected
 from texts import FULL, answer, same, sign, text
-
-NAME = rb"[A-Z0-9]{1,8}"
-TAIL = rb"([1-8]) ((?:square|tails|long) [0-9a-f]{16})\n"
-WHOLE = re.compile(
-    rb"locker " + NAME + rb"\n(?:sign " + NAME + rb" " + TAIL + rb"){1,48}(?:same [1-4] " + TAIL + rb")*(?:answer "
-    + TAIL + rb")?"
-)
-SIGN = re.compile(rb"^sign (" + NAME + rb") " + TAIL, re.MULTILINE)
-SAME = re.compile(rb"^same ([1-4]) " + TAIL, re.MULTILINE)
-ANSWER = re.compile(rb"^answer ()" + TAIL, re.MULTILINE)
-
-
-def kinds_of(t):
-    """(what it means, copies) for each kind: 0 for a sign, K for a same, 9 for the answer; or None."""
-    t = bytes(t)
-    if WHOLE.fullmatch(t) is None:
-        return None
-    signs, sames, answers = (part.findall(t) for part in (SIGN, SAME, ANSWER))
-    names = [name for name, copies, design in signs]
-    numbers = [k for k, copies, design in sames]
-    designs = [design for name, copies, design in signs + sames + answers]
-    if len(set(names)) < len(names) or numbers != sorted(set(numbers)) or len(set(designs)) < len(designs):
-        return None
-    return (
-        [(0, int(copies)) for name, copies, design in signs]
-        + [(int(k), int(copies)) for k, copies, design in sames]
-        + [(9, int(copies)) for name, copies, design in answers]
-    )
-
-
-def meaning(kinds, hoist, place):
-    """The sign that the flag at the place means, or None; told from the flag up, not from the top down."""
-    back = kinds[hoist[place]][0]
-    if back == 0:
-        return hoist[place]
-    if back > place:
-        return None
-    return meaning(kinds, hoist, back - 1)
-
-
-def expected(t, hoist):
-    if len(t) > 65536:
-        return [-2]
-    kinds = kinds_of(t)
-    if kinds is None:
-        return [-6]
-    if not 1 <= len(hoist) <= 8:
-        return [-1]
-    places = range(len(hoist))
-    unknown = [place for place in places if hoist[place] not in range(len(kinds))]
-    if unknown:
-        return [-4, min(unknown)]
-    row = [meaning(kinds, hoist, place) for place in places]
-    if None in row:
-        return [-9, row.index(None)]
-    for place in places:
-        if sum(hoist[above] == hoist[place] for above in range(place + 1)) > kinds[hoist[place]][1]:
-            return [-3, place]
-    return [len(row)] + row
 
 
 class AgainstReference(unittest.TestCase):

@@ -1,7 +1,7 @@
 import unittest
 
 from flaghoistsdesk.locker import means
-from texts import A, ANSWER, B, C, D, E, FULL, NO_KIND, SAME1, SAME2, SAME3, SAME4, same, sign, text
+from texts import A, ANSWER, B, C, D, E, FULL, NO_KIND, SAME1, SAME2, SAME3, SAME4, Frozen, same, sign, text
 
 
 class MeansCase(unittest.TestCase):
@@ -201,16 +201,6 @@ class EachCallByItself(unittest.TestCase):
             got.append(99)
             got[0] = 77
             self.assertEqual(means(t, hoist), kept)
-
-
-class Frozen(list):
-    """A list that can't be changed, not for a while either."""
-
-    def refuse(self, *args, **kwargs):
-        raise AssertionError("what is handed in is changed")
-
-    append = extend = insert = pop = remove = clear = sort = reverse = refuse
-    __setitem__ = __delitem__ = __iadd__ = __imul__ = refuse
 
 
 class HandedInUnchanged(unittest.TestCase):

@@ -9,13 +9,14 @@ import sys
 import unittest
 
 import flaghoistsdesk
-from flaghoistsdesk.locker import means
+from flaghoistsdesk.locker import means, shows
+from texts import locker
 
 FOLDER = os.path.dirname(os.path.abspath(flaghoistsdesk.__file__))
 FILES = [os.path.join(FOLDER, name) for name in sorted(os.listdir(FOLDER)) if name != "__pycache__"]
 WORDS = ("type typing typing_extensions enum Enum IntEnum StrEnum Flag IntFlag Generic Protocol ABC ABCMeta namedtuple "
          "NamedTuple TypedDict TYPE_CHECKING abstractmethod").split()
-CALLED = "len range enumerate ord".split()
+CALLED = "len range enumerate ord sum max list".split()
 
 
 def contents(path):
@@ -24,8 +25,15 @@ def contents(path):
 
 
 class Interface(unittest.TestCase):
-    def test_means_and_its_arguments(self):
-        self.assertEqual(list(inspect.signature(means).parameters), ["t", "h"])
+    def check(self, call, arguments):
+        self.assertEqual(list(inspect.signature(call).parameters), arguments)
+        self.assertEqual(call.__module__, "flaghoistsdesk.locker")
+
+    def test_means(self):
+        self.check(means, ["t", "h"])
+
+    def test_shows(self):
+        self.check(shows, ["t", "lens", "signs"])
 
 
 class Files(unittest.TestCase):
@@ -73,33 +81,50 @@ class Files(unittest.TestCase):
 
 
 class Quiet(unittest.TestCase):
-    def test_prints_reads_and_imports_nothing(self):
+    def check(self, calls, answered):
         program = (
             "import sys\n"
-            "from flaghoistsdesk.locker import means\n"
+            "from flaghoistsdesk.locker import *\n"
             "t = list(b'locker L\\nsign X 1 square 0123456789abcdef\\n')\n"
             "seen = []\n"
             "loaded = sorted(sys.modules)\n"
             "sys.addaudithook(lambda event, args: seen.append(event))\n"
-            "got = [means(t, [0]), means(t, []), means([], [0]), means([10] * 65537, [0])]\n"
+            f"got = [{calls}]\n"
             "told = list(seen)\n"
-            "sys.exit(0 if got == [[1, 0], [-1], [-6], [-2]] and told == [] and sorted(sys.modules) == loaded else 1)\n"
+            f"sys.exit(0 if got == {answered} and told == [] and sorted(sys.modules) == loaded else 1)\n"
         )
         done = subprocess.run([sys.executable, "-c", program], cwd=os.path.dirname(FOLDER), capture_output=True,
                               stdin=subprocess.DEVNULL)
         self.assertEqual((done.returncode, done.stdout, done.stderr), (0, b"", b""))
 
+    def test_means(self):
+        self.check("means(t, [0]), means(t, []), means([], [0]), means([10] * 65537, [0])", [[1, 0], [-1], [-6], [-2]])
+
+    def test_shows(self):
+        self.check("shows(t, [1], [0]), shows(t, [2], [0, 0]), shows(t, [1], [1]), shows(t, [], []), shows([], [], [])",
+                   [[1, 0, 0], [-5], [-4], [-1], [-6]])
+
 
 class Depth(unittest.TestCase):
-    def test_long_texts_within_few_calls(self):
-        depth = len(inspect.stack())
+    TEXTS = ([10] * 65536, [32] * 65536, [65] * 65536)
+
+    def check(self, call, answered):
         before = sys.getrecursionlimit()
-        sys.setrecursionlimit(depth + 60)
+        sys.setrecursionlimit(len(inspect.stack()) + 60)
         try:
-            got = [means([10] * 65536, [0]), means([32] * 65536, [0]), means([65] * 65536, [0])]
+            got = call()
         finally:
             sys.setrecursionlimit(before)
-        self.assertEqual(got, [[-6], [-6], [-6]])
+        self.assertEqual(got, answered)
+
+    def test_means(self):
+        self.check(lambda: [means(t, [0]) for t in self.TEXTS], [[-6]] * 3)
+
+    def test_shows(self):
+        self.check(lambda: [shows(t, [1], [0]) for t in self.TEXTS], [[-6]] * 3)
+        t = locker([8] * 48, [(1, 8), (2, 8), (3, 8), (4, 8)], [1])
+        self.check(lambda: shows(t, [8] * 4, [0] * 8 + [1] * 8 + [2] * 8 + [3] * 8),
+                   [32, 0] + [0] * 8 + [1] * 8 + [2] * 8 + [3] * 8)
 
 
 if __name__ == "__main__":

@@ -1,4 +1,14 @@
-"""Texts of lockers for the tests."""
+"""Texts of lockers for the tests, and lists to hand in."""
+
+
+class Frozen(list):
+    """A list that can't be changed, not for a while either."""
+
+    def refuse(self, *args, **kwargs):
+        raise AssertionError("what is handed in is changed")
+
+    append = extend = insert = pop = remove = clear = sort = reverse = refuse
+    __setitem__ = __delitem__ = __iadd__ = __imul__ = refuse
 
 
 def look(n):
@@ -21,6 +31,14 @@ def same(k, n, copies=1, shape="tails"):
 
 def answer(n, copies=1, shape="long"):
     return f"answer {copies} {shape} {look(n)}"
+
+
+def locker(signs, sames=(), answers=()):
+    """A locker's text: signs' copies, (K, copies) of sames, the answer's copies."""
+    lines = [sign(f"S{n}", n, copies) for n, copies in enumerate(signs)]
+    lines += [same(k, k, copies) for k, copies in sames]
+    lines += [answer(9, copies) for copies in answers]
+    return text("locker L", *lines)
 
 
 # Kinds 0 to 4 are the signs A to E, 5 to 8 the sames with K 1 to 4, 9 the answer.
