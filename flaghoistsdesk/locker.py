@@ -16,6 +16,7 @@ NOT_SHOWN = -5
 
 MOST_FLAGS = 8
 MOST_HOISTS = 4
+MOST_COUNTED = 4
 
 
 def text_refusal(t):
@@ -203,3 +204,47 @@ def shows(t, lens, signs):
     if kinds is None:
         return text_refusal(t)
     return shows_in(kinds, lens, signs)
+
+
+def can_show(kinds, row):
+    return can_fill(row_choices(kinds, row), copies_of(kinds), same_sets(kinds))
+
+
+# How many rows of m signs begin with the row and are shown by a hoist alone.
+def rows_from(kinds, row, m):
+    # What shows a longer row shows, cut off, what it begins with.
+    if not can_show(kinds, row):
+        return 0
+    if len(row) == m:
+        return 1
+    return sum(counts_by_next(kinds, row, m))
+
+
+# For each sign: how many of these rows go on with it. Whether a row can be shown hangs on where it
+# has equal signs and on their copies, not on which signs they are: so of signs that are new to the
+# row one stands for all with as many copies, and more copies than m are as good as m.
+def counts_by_next(kinds, row, m):
+    counts = []
+    alike = {}
+    for sign in range(sign_count(kinds)):
+        if sign in row:
+            counts.append(rows_from(kinds, row + [sign], m))
+        else:
+            copies = min(kinds[sign].copies, m)
+            if copies not in alike:
+                alike[copies] = rows_from(kinds, row + [sign], m)
+            counts.append(alike[copies])
+    return counts
+
+
+def many_in(kinds, m):
+    if m == 0 or m > MOST_COUNTED:
+        return [BAD_LENGTH]
+    return [0, rows_from(kinds, [], m)]
+
+
+def many(m, t):
+    kinds = read_locker(t)
+    if kinds is None:
+        return text_refusal(t)
+    return many_in(kinds, m)

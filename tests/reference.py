@@ -2,6 +2,7 @@
 
 import functools
 import itertools
+import math
 import re
 
 NAME = rb"[A-Z0-9]{1,8}"
@@ -130,3 +131,20 @@ def expected_shows(t, lens, signs, best=best_display):
 def rows_of(lens, signs):
     ends = list(itertools.accumulate(lens))
     return [signs[end - length:end] for end, length in zip(ends, lens)]
+
+
+def rows_shown(t, m):
+    """All rows of m signs that some hoist shows, in their order, out of all lists of m flags."""
+    kinds = kinds_of(t)
+    hoists = hoists_by_row(tuple(kinds), m)
+    return sorted(list(row) for row in hoists if any(within_copies(kinds, hoist) for hoist in hoists[row]))
+
+
+def row_count(m, unbound, copies):
+    """How many rows of m signs there are with so many unbound signs, and of each other sign no more than its copies."""
+    # Of each sign in turn: in how many ways it and those before it can stand at so many of the places.
+    ways = [1] + [0] * m
+    for most in [m] * unbound + copies:
+        ways = [sum(ways[size - there] * math.comb(size, there) for there in range(min(most, size) + 1))
+                for size in range(m + 1)]
+    return ways[m]

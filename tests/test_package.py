@@ -9,14 +9,14 @@ import sys
 import unittest
 
 import flaghoistsdesk
-from flaghoistsdesk.locker import means, shows
+from flaghoistsdesk.locker import many, means, shows
 from texts import locker
 
 FOLDER = os.path.dirname(os.path.abspath(flaghoistsdesk.__file__))
 FILES = [os.path.join(FOLDER, name) for name in sorted(os.listdir(FOLDER)) if name != "__pycache__"]
 WORDS = ("type typing typing_extensions enum Enum IntEnum StrEnum Flag IntFlag Generic Protocol ABC ABCMeta namedtuple "
          "NamedTuple TypedDict TYPE_CHECKING abstractmethod").split()
-CALLED = "len range enumerate ord sum max list".split()
+CALLED = "len range enumerate ord sum min max list".split()
 
 
 def contents(path):
@@ -34,6 +34,9 @@ class Interface(unittest.TestCase):
 
     def test_shows(self):
         self.check(shows, ["t", "lens", "signs"])
+
+    def test_many(self):
+        self.check(many, ["m", "t"])
 
 
 class Files(unittest.TestCase):
@@ -104,6 +107,9 @@ class Quiet(unittest.TestCase):
         self.check("shows(t, [1], [0]), shows(t, [2], [0, 0]), shows(t, [1], [1]), shows(t, [], []), shows([], [], [])",
                    [[1, 0, 0], [-5], [-4], [-1], [-6]])
 
+    def test_many(self):
+        self.check("many(1, t), many(4, t), many(5, t), many(1, [])", [[0, 1], [0, 0], [-1], [-6]])
+
 
 class Depth(unittest.TestCase):
     TEXTS = ([10] * 65536, [32] * 65536, [65] * 65536)
@@ -125,6 +131,11 @@ class Depth(unittest.TestCase):
         t = locker([8] * 48, [(1, 8), (2, 8), (3, 8), (4, 8)], [1])
         self.check(lambda: shows(t, [8] * 4, [0] * 8 + [1] * 8 + [2] * 8 + [3] * 8),
                    [32, 0] + [0] * 8 + [1] * 8 + [2] * 8 + [3] * 8)
+
+    def test_many(self):
+        self.check(lambda: [many(4, t) for t in self.TEXTS], [[-6]] * 3)
+        t = locker([1] * 48, [(1, 8), (2, 8), (3, 8), (4, 8)], [1])
+        self.check(lambda: many(4, t), [0, 48 ** 4])
 
 
 if __name__ == "__main__":

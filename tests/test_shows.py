@@ -1,23 +1,20 @@
 import itertools
 import random
-import time
 import unittest
 
+from cases import AnswerCase, EachCallByItself
 from flaghoistsdesk.locker import means, shows
 from reference import best_display, best_of_many, expected_shows, rows_of
-from texts import A, ANSWER, B, C, D, E, FULL, NO_KIND, SAME1, SAME2, SAME3, SAME4, Frozen, locker
+from texts import A, ANSWER, B, C, D, E, FULL, NO_KIND, SAME1, SAME2, SAME3, SAME4, locker
 
 
-class ShowsCase(unittest.TestCase):
+class ShowsCase(AnswerCase):
     def check(self, t, rows, answered):
         self.check_lists(t, [len(row) for row in rows], sum(rows, []), answered)
 
     def check_lists(self, t, lens, signs, answered):
         got = shows(list(t), list(lens), list(signs))
-        self.assertEqual(got, answered, (lens, signs))
-        self.assertIs(type(got), list)
-        for number in got:
-            self.assertIs(type(number), int)
+        self.check_answer(got, answered, (lens, signs))
         if got[0] > 0:
             for hoist, row in zip(rows_of(lens, got[2:]), rows_of(lens, signs)):
                 self.assertEqual(means(t, hoist), [len(row)] + list(row))
@@ -330,9 +327,7 @@ class Heaviest(ShowsCase):
     SAMES = [(1, 8), (2, 8), (3, 8), (4, 8)]
 
     def check_soon(self, t, rows, answered):
-        start = time.perf_counter()
-        self.check(t, rows, answered)
-        self.assertLess(time.perf_counter() - start, 2)
+        self.check_within(2, lambda: self.check(t, rows, answered))
 
     def test_one_sign(self):
         t = locker([8], self.SAMES)
@@ -367,7 +362,8 @@ class Heaviest(ShowsCase):
         self.check_soon(locker([4, 4], [(1, 5), (2, 5), (3, 5), (4, 8)]), rows, [-5])
 
 
-class EachCallByItself(unittest.TestCase):
+class ShowsByItself(EachCallByItself, unittest.TestCase):
+    call = staticmethod(shows)
     CASES = (
         (FULL, [3, 2], [B, C, B, A, A]),
         (FULL, [2], [B, B]),
@@ -379,28 +375,6 @@ class EachCallByItself(unittest.TestCase):
         ([], [1], [A]),
         ([10] * 65537, [1], [A]),
     )
-
-    def test_second_call_answers_as_the_first(self):
-        first = [shows(*case) for case in self.CASES]
-        self.assertEqual([shows(*case) for case in self.CASES], first)
-
-    def test_changing_what_was_answered_changes_no_later_answer(self):
-        for case in self.CASES:
-            got = shows(*case)
-            kept = list(got)
-            got.append(99)
-            got[0] = 77
-            self.assertEqual(shows(*case), kept)
-
-    def test_as_before_after_the_call(self):
-        for case in self.CASES:
-            given = [list(part) for part in case]
-            shows(*given)
-            self.assertEqual(given, list(case))
-
-    def test_not_changed_for_a_while(self):
-        for case in self.CASES:
-            self.assertEqual(shows(*[Frozen(part) for part in case]), shows(*case))
 
 
 if __name__ == "__main__":

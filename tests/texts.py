@@ -1,4 +1,7 @@
-"""Texts of lockers for the tests, and lists to hand in."""
+"""Texts of lockers for the tests, and what else is handed in."""
+
+# The greatest m and i.
+GREATEST = 18446744073709551615
 
 
 class Frozen(list):
