@@ -9,7 +9,7 @@ from flaghoistsdesk.reading import SAME, SIGN, is_too_long, read_locker
 TEXT_TOO_LONG = -2
 NO_LOCKER = -6
 BAD_LENGTH = -1
-NO_KIND = -4
+NO_SUCH_NUMBER = -4
 MEANS_NOTHING = -9
 TOO_FEW_COPIES = -3
 NOT_SHOWN = -5
@@ -58,7 +58,7 @@ def means_in(kinds, h):
         return [BAD_LENGTH]
     unknown = unknown_place(kinds, h)
     if unknown >= 0:
-        return [NO_KIND, unknown]
+        return [NO_SUCH_NUMBER, unknown]
     row = meant_row(kinds, h)
     if len(row) < len(h):
         # The flags above the first that means nothing mean a sign each, so their count is its place.
@@ -191,7 +191,7 @@ def shows_in(kinds, lens, signs):
     if not are_lengths(lens, signs):
         return [BAD_LENGTH]
     if not are_signs(kinds, signs):
-        return [NO_KIND]
+        return [NO_SUCH_NUMBER]
     flags = told_flags(kinds, all_choices(kinds, lens, signs))
     if flags is None:
         return [NOT_SHOWN]
@@ -237,8 +237,12 @@ def counts_by_next(kinds, row, m):
     return counts
 
 
+def is_counted(m):
+    return m >= 1 and m <= MOST_COUNTED
+
+
 def many_in(kinds, m):
-    if m == 0 or m > MOST_COUNTED:
+    if not is_counted(m):
         return [BAD_LENGTH]
     return [0, rows_from(kinds, [], m)]
 
@@ -248,3 +252,33 @@ def many(m, t):
     if kinds is None:
         return text_refusal(t)
     return many_in(kinds, m)
+
+
+# There must be more than i rows of m signs.
+def numbered_row(kinds, m, i):
+    row = []
+    left = i
+    while len(row) < m:
+        counts = counts_by_next(kinds, row, m)
+        sign = 0
+        # The rows that go on with a lesser sign all come before.
+        while left >= counts[sign]:
+            left = left - counts[sign]
+            sign = sign + 1
+        row.append(sign)
+    return row
+
+
+def nth_in(kinds, m, i):
+    if not is_counted(m):
+        return [BAD_LENGTH]
+    if i >= rows_from(kinds, [], m):
+        return [NO_SUCH_NUMBER]
+    return [m] + numbered_row(kinds, m, i)
+
+
+def nth(m, i, t):
+    kinds = read_locker(t)
+    if kinds is None:
+        return text_refusal(t)
+    return nth_in(kinds, m, i)

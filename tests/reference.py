@@ -148,3 +148,16 @@ def row_count(m, unbound, copies):
         ways = [sum(ways[size - there] * math.comb(size, there) for there in range(min(most, size) + 1))
                 for size in range(m + 1)]
     return ways[m]
+
+
+def number_without_sames(row, copies):
+    """How many rows come before the row in a locker with no sames whose signs have so many copies."""
+    left = list(copies)
+    before = 0
+    for place, sign in enumerate(row):
+        for lesser in range(sign):
+            if left[lesser] > 0:
+                rest = left[:lesser] + [left[lesser] - 1] + left[lesser + 1:]
+                before += row_count(len(row) - place - 1, 0, rest)
+        left[sign] -= 1
+    return before

@@ -9,7 +9,7 @@ import sys
 import unittest
 
 import flaghoistsdesk
-from flaghoistsdesk.locker import many, means, shows
+from flaghoistsdesk.locker import many, means, nth, shows
 from texts import locker
 
 FOLDER = os.path.dirname(os.path.abspath(flaghoistsdesk.__file__))
@@ -37,6 +37,9 @@ class Interface(unittest.TestCase):
 
     def test_many(self):
         self.check(many, ["m", "t"])
+
+    def test_nth(self):
+        self.check(nth, ["m", "i", "t"])
 
 
 class Files(unittest.TestCase):
@@ -110,6 +113,9 @@ class Quiet(unittest.TestCase):
     def test_many(self):
         self.check("many(1, t), many(4, t), many(5, t), many(1, [])", [[0, 1], [0, 0], [-1], [-6]])
 
+    def test_nth(self):
+        self.check("nth(1, 0, t), nth(1, 1, t), nth(5, 0, t), nth(1, 0, [])", [[1, 0], [-4], [-1], [-6]])
+
 
 class Depth(unittest.TestCase):
     TEXTS = ([10] * 65536, [32] * 65536, [65] * 65536)
@@ -136,6 +142,11 @@ class Depth(unittest.TestCase):
         self.check(lambda: [many(4, t) for t in self.TEXTS], [[-6]] * 3)
         t = locker([1] * 48, [(1, 8), (2, 8), (3, 8), (4, 8)], [1])
         self.check(lambda: many(4, t), [0, 48 ** 4])
+
+    def test_nth(self):
+        self.check(lambda: [nth(4, 0, t) for t in self.TEXTS], [[-6]] * 3)
+        t = locker([1] * 48, [(1, 8), (2, 8), (3, 8), (4, 8)], [1])
+        self.check(lambda: nth(4, 48 ** 4 - 1, t), [4, 47, 47, 47, 47])
 
 
 if __name__ == "__main__":
