@@ -282,3 +282,28 @@ def nth(m, i, t):
     if kinds is None:
         return text_refusal(t)
     return nth_in(kinds, m, i)
+
+
+def rows_before(kinds, row):
+    before = 0
+    for place, sign in enumerate(row):
+        lesser = counts_by_next(kinds, row[:place], len(row))[:sign]
+        before = before + sum(lesser)
+    return before
+
+
+def number_in(kinds, row):
+    if not is_counted(len(row)):
+        return [BAD_LENGTH]
+    if not are_signs(kinds, row):
+        return [NO_SUCH_NUMBER]
+    if not can_show(kinds, row):
+        return [NOT_SHOWN]
+    return [0, rows_before(kinds, row)]
+
+
+def number(t, row):
+    kinds = read_locker(t)
+    if kinds is None:
+        return text_refusal(t)
+    return number_in(kinds, row)

@@ -1,10 +1,9 @@
-import random
 import unittest
 
 from cases import AnswerCase, EachCallByItself
 from flaghoistsdesk.locker import many, shows
 from reference import row_count, rows_shown
-from texts import FULL, GREATEST, locker, same, sign, text
+from texts import FULL, GREATEST, locker, same, sign, six_sign_lockers, small_lockers, text
 
 
 class ManyCase(AnswerCase):
@@ -105,18 +104,8 @@ class OrderOfRefusals(ManyCase):
 
 
 class AgainstSearch(ManyCase):
-    def test_many_lockers(self):
-        chance = random.Random(6)
-        for turn in range(150):
-            signs = [chance.randint(1, 5) for sign in range(chance.randint(1, 3))]
-            ks = sorted(chance.sample((1, 2, 3, 4), chance.randint(0, 4)))
-            t = locker(signs, [(k, chance.randint(1, 3)) for k in ks], [1] * chance.randrange(2))
-            self.check_all(t, [len(rows_shown(t, m)) for m in (1, 2, 3, 4)])
-
-    def test_more_signs(self):
-        for signs, sames in (([1, 2, 3, 4, 5, 1], [(1, 1), (3, 1)]), ([1, 1, 2, 2, 1, 1], [(1, 2), (2, 1)]),
-                             ([3, 1, 1, 2, 3, 1], [(2, 1), (3, 1), (4, 1)])):
-            t = locker(signs, sames)
+    def test_small_lockers(self):
+        for t in list(small_lockers(6, 150)) + six_sign_lockers():
             self.check_all(t, [len(rows_shown(t, m)) for m in (1, 2, 3, 4)])
 
     def test_as_many_as_shows_shows(self):

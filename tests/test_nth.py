@@ -4,8 +4,8 @@ import unittest
 
 from cases import AnswerCase, EachCallByItself
 from flaghoistsdesk.locker import many, nth, shows
-from reference import number_without_sames, rows_shown
-from texts import FULL, GREATEST, locker, same, sign, text
+from reference import number_without_sames, row_count, rows_shown
+from texts import FULL, GREATEST, locker, rows_of_great_lockers, same, sign, six_sign_lockers, small_lockers, text
 
 
 class NthCase(AnswerCase):
@@ -132,18 +132,13 @@ class OrderOfRefusals(NthCase):
 
 
 class AgainstSearch(NthCase):
-    def test_many_lockers(self):
-        chance = random.Random(7)
-        for turn in range(30):
-            signs = [chance.randint(1, 5) for sign in range(chance.randint(1, 3))]
-            ks = sorted(chance.sample((1, 2, 3, 4), chance.randint(0, 4)))
-            t = locker(signs, [(k, chance.randint(1, 3)) for k in ks], [1] * chance.randrange(2))
+    def test_small_lockers(self):
+        for t in small_lockers(7, 30):
             for m in (1, 2, 3, 4):
                 self.check_rows(t, m, rows_shown(t, m))
 
     def test_more_signs(self):
-        for signs, sames in (([1, 2, 3, 4, 5, 1], [(1, 1), (3, 1)]), ([3, 1, 1, 2, 3, 1], [(2, 1), (3, 1), (4, 1)])):
-            t = locker(signs, sames)
+        for t in six_sign_lockers():
             self.check_rows(t, 3, rows_shown(t, 3))
 
     def test_those_that_shows_shows(self):
@@ -166,15 +161,9 @@ class Greatest(NthCase):
                 self.check_soon(t, 4, i, [-4])
 
     def test_copies_without_sames(self):
-        chance = random.Random(9)
-        for copies in ([1] * 48, [3] * 48, [1 + n % 8 for n in range(48)]):
-            t = locker(copies)
-            self.check_soon(t, 4, many(4, t)[1], [-4])
-            for turn in range(4):
-                row = chance.sample(range(48), 3)
-                row.append(chance.choice([sign for sign in range(48) if sign not in row or copies[sign] > 1]))
-                chance.shuffle(row)
-                self.check_soon(t, 4, number_without_sames(row, copies), [4] + row)
+        for copies, row in rows_of_great_lockers(9):
+            self.check_soon(locker(copies), 4, number_without_sames(row, copies), [4] + row)
+            self.check_soon(locker(copies), 4, row_count(4, 0, copies), [-4])
 
     def test_all_rows_of_two(self):
         t = locker([1 + n % 2 for n in range(48)])

@@ -9,7 +9,7 @@ import sys
 import unittest
 
 import flaghoistsdesk
-from flaghoistsdesk.locker import many, means, nth, shows
+from flaghoistsdesk.locker import many, means, nth, number, shows
 from texts import locker
 
 FOLDER = os.path.dirname(os.path.abspath(flaghoistsdesk.__file__))
@@ -40,6 +40,9 @@ class Interface(unittest.TestCase):
 
     def test_nth(self):
         self.check(nth, ["m", "i", "t"])
+
+    def test_number(self):
+        self.check(number, ["t", "row"])
 
 
 class Files(unittest.TestCase):
@@ -116,6 +119,10 @@ class Quiet(unittest.TestCase):
     def test_nth(self):
         self.check("nth(1, 0, t), nth(1, 1, t), nth(5, 0, t), nth(1, 0, [])", [[1, 0], [-4], [-1], [-6]])
 
+    def test_number(self):
+        self.check("number(t, [0]), number(t, [0, 0]), number(t, [1]), number(t, []), number([], [])",
+                   [[0, 0], [-5], [-4], [-1], [-6]])
+
 
 class Depth(unittest.TestCase):
     TEXTS = ([10] * 65536, [32] * 65536, [65] * 65536)
@@ -147,6 +154,11 @@ class Depth(unittest.TestCase):
         self.check(lambda: [nth(4, 0, t) for t in self.TEXTS], [[-6]] * 3)
         t = locker([1] * 48, [(1, 8), (2, 8), (3, 8), (4, 8)], [1])
         self.check(lambda: nth(4, 48 ** 4 - 1, t), [4, 47, 47, 47, 47])
+
+    def test_number(self):
+        self.check(lambda: [number(t, [0]) for t in self.TEXTS], [[-6]] * 3)
+        t = locker([1] * 48, [(1, 8), (2, 8), (3, 8), (4, 8)], [1])
+        self.check(lambda: number(t, [47, 47, 47, 47]), [0, 48 ** 4 - 1])
 
 
 if __name__ == "__main__":

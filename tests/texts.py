@@ -1,5 +1,7 @@
 """Texts of lockers for the tests, and what else is handed in."""
 
+import random
+
 # The greatest m and i.
 GREATEST = 18446744073709551615
 
@@ -42,6 +44,31 @@ def locker(signs, sames=(), answers=()):
     lines += [same(k, k, copies) for k, copies in sames]
     lines += [answer(9, copies) for copies in answers]
     return text("locker L", *lines)
+
+
+def small_lockers(seed, turns):
+    """So many lockers, small enough for plain searches."""
+    chance = random.Random(seed)
+    for turn in range(turns):
+        signs = [chance.randint(1, 5) for sign in range(chance.randint(1, 3))]
+        ks = sorted(chance.sample((1, 2, 3, 4), chance.randint(0, 4)))
+        yield locker(signs, [(k, chance.randint(1, 3)) for k in ks], [1] * chance.randrange(2))
+
+
+def six_sign_lockers():
+    return [locker([1, 2, 3, 4, 5, 1], [(1, 1), (3, 1)]), locker([1, 1, 2, 2, 1, 1], [(1, 2), (2, 1)]),
+            locker([3, 1, 1, 2, 3, 1], [(2, 1), (3, 1), (4, 1)])]
+
+
+def rows_of_great_lockers(seed):
+    """Copies of 48 signs, and a row of four that a locker of these and no sames shows."""
+    chance = random.Random(seed)
+    for copies in ([1] * 48, [3] * 48, [1 + n % 8 for n in range(48)]):
+        for turn in range(4):
+            row = chance.sample(range(48), 3)
+            row.append(chance.choice([sign for sign in range(48) if sign not in row or copies[sign] > 1]))
+            chance.shuffle(row)
+            yield copies, row
 
 
 # Kinds 0 to 4 are the signs A to E, 5 to 8 the sames with K 1 to 4, 9 the answer.
